@@ -1,0 +1,1 @@
+"""Rankbounds: a few kept readings of a long row."""
