@@ -22,29 +22,40 @@ def halved(entries):
     return entries[1::2]
 
 
+def ahead_of(entries, many, reading):
+    """At least and at most how many of a row's `many` readings are less than this one."""
+    return (_least_less(entries, reading), _most_less(entries, many, reading))
+
+
+def nearest(entries, place):
+    """The reading of the entry that by its bounds is off this place by the least."""
+    found = min(entries, key=lambda entry: max(place - entry[1], entry[2] - place))
+    return found[0]
+
+
 def _lifted(entries, others, more):
     """Entries with what the other row, of `more` readings, adds to their bounds."""
+    # Readings are whole numbers: what is no greater than one is less than the next.
     return [
-        (reading, least + _added_to_least(reading, others), most + _added_to_most(reading, others, more))
+        (reading, least + _least_less(others, reading + 1), most + _most_less(others, more, reading))
         for reading, least, most in entries
     ]
 
 
-def _added_to_least(reading, others):
-    """How many readings of the other row, at least, are no greater than this reading."""
-    # Readings are whole numbers: what is no greater than one is less than the next.
-    place = _first_no_less(others, reading + 1)
+def _least_less(entries, reading):
+    """How many readings of a row, at least, are less than this one."""
+    place = _first_no_less(entries, reading)
     if place == 0:
         return 0
-    return others[place - 1][1] + 1
+    return entries[place - 1][1] + 1
 
 
-def _added_to_most(reading, others, more):
-    """How many readings of the other row, at most, are less than this reading."""
-    place = _first_no_less(others, reading)
-    if place == len(others):
-        return more
-    return others[place][2]
+def _most_less(entries, many, reading):
+    """How many of a row's `many` readings, at most, are less than this one."""
+    place = _first_no_less(entries, reading)
+    if place == len(entries):
+        return many
+    return entries[place][2]
 
 
 def _first_no_less(entries, reading):
